@@ -69,7 +69,7 @@ func withCount(b *api.Books, x api.Entry) []api.Report {
 	need(e == api.OK && r.Kind != api.ReportVoid, api.FindForm)
 	l, r := reports(b).judged(line, x.Day, api.FindRecord)
 	c.Id, c.Day = r.Id, x.Day
-	low, high := -1, -1
+	var low, high int
 	e = attempt[api.Errno](func() { low, high = endsOf(*b, c) })
 	need(e == api.OK && low == r.Low && high == r.High, api.FindCount)
 	return l

@@ -17,8 +17,11 @@ type suit struct{ steps []api.Step }
 func suitOf(b api.Books, id int) suit {
 	var c suit
 	for _, x := range b.Steps {
-		opens := x.Kind == api.StepComplain && x.Id == id
-		if opens || x.Kind != api.StepComplain && x.Of == id && len(c.steps) > 0 {
+		about := x.Of
+		if x.Kind == api.StepComplain {
+			about = x.Id
+		}
+		if about == id {
 			c.steps = append(c.steps, x)
 		}
 	}
@@ -86,9 +89,7 @@ func (c suit) due(b api.Books, day int) (api.Verdict, int) {
 	complaint := c.steps[0]
 	low, high := plights(b, complaint, day)
 	v := must(rule.Judge(b.Rules, fineOf(b.Rules, complaint.Fine), low, high))
-	if v.Kind != api.VerdictSure {
-		return v, 0
-	}
+	// Least is 0 unless the fine is sure.
 	return v, min(share.Floor(v.Least), api.MaxMoney)
 }
 

@@ -14,7 +14,7 @@ import (
 func TestStepTexts(t *testing.T) {
 	for line, x := range map[string]api.Step{
 		"1 0 complain 7 1 over":                              {Id: 1, Kind: api.StepComplain, Owner: 7, Tick: 1, Fine: "over"},
-		"400 100000 complain 40 24 abcdefghijklmnopqrstu-90": {Id: 400, Day: 100000, Kind: api.StepComplain, Owner: 40, Tick: 24, Fine: "abcdefghijklmnopqrstu-90"},
+		"400 100000 complain 40 24 zbcdefghijklmnopqrstu-90": {Id: 400, Day: 100000, Kind: api.StepComplain, Owner: 40, Tick: 24, Fine: "zbcdefghijklmnopqrstu-90"},
 		"1 0 complain 1 0 a":                                 {Id: 1, Kind: api.StepComplain, Owner: 1, Fine: "a"},
 		"2 3 summon 1":                                       {Id: 2, Day: 3, Kind: api.StepSummon, Of: 1},
 		"3 3 reply 2":                                        {Id: 3, Day: 3, Kind: api.StepReply, Of: 2},
@@ -33,7 +33,7 @@ func TestStepTexts(t *testing.T) {
 		}
 	}
 	for _, line := range []string{
-		"", " ", "1", "1 0", "1 0 complain", "1 0 complain 7 1", "1 0 complain 7 1 over x", "1 0 complain 7 1 Over", "1 0 complain 7 1 9over", "1 0 complain 7 1 overé", "1 0 complain 7 1 ov\u0161r", "1 0 complain 7 1 abcdefghijklmnopqrstu-901",
+		"", " ", "1", "1 0", "1 0 complain", "1 0 complain 7 1", "1 0 complain 7 1 over x", "1 0 complain 7 1 Over", "1 0 complain 7 1 9over", "1 0 complain 7 1 overé", "1 0 complain 7 1 ov\u0161r", "1 0 complain 7 1 zbcdefghijklmnopqrstu-901",
 		"1 0 complain 0 1 over", "1 0 complain 41 1 over", "1 0 complain 7 25 over", "1 0 complain 7 -1 over", "1 0 complain x 1 over", "1 0 complain 7 x over", "0 0 complain 7 1 over", "401 0 complain 7 1 over", "1 100001 complain 7 1 over",
 		"1 -1 complain 7 1 over", "01 0 complain 7 1 over", "1 00 complain 7 1 over", "1 0  complain 7 1 over", " 1 0 complain 7 1 over", "1 0 complain 7 1 over ", "1 0 complain 7 1 over\n", "1 0 complain 7 1 ", "x 0 complain 7 1 over", "1 x complain 7 1 over",
 		"1 0 accuse 7 1 over", "1 0  7 1 over", "2 3 summon", "2 3 summon 0", "2 3 summon 2", "2 3 summon 3", "2 3 summon x", "2 3 summon 1 2", "1 3 summon 1", "1 3 summon 0", "2 3 reply 2", "2 3 view 2", "2 3 reopen 2", "2 3 reopen 01",

@@ -9,6 +9,7 @@ import (
 
 	"couchant/api"
 	"couchant/manor"
+	"couchant/rule"
 )
 
 // The examples of the chapter: texts, one after the other, with their answers and the entries that they write.
@@ -74,7 +75,7 @@ func TestPaperForms(t *testing.T) {
 		{"report stay 7 sheep high 1 3 4", api.OK}, {"report stay 7 sheep moor 1 3 4", api.ErrForm}, {"report void 1", api.ErrNone}, {"report", api.ErrForm},
 		{"count stay 7 sheep high 1 3 10 2", api.OK}, {"count stay 7 sheep high 1 3 10", api.ErrForm}, {"count stay 7 sheep high 1 3 10 2 1", api.ErrForm},
 		{"count stay x sheep high 1 3 10 2", api.ErrForm}, {"count stay 7 sheep high x 3 10 2", api.ErrForm}, {"count stay 7 sheep high 1 x 10 2", api.ErrForm},
-		{"count stay 7 sheep high 1 3 x 2", api.ErrForm}, {"count stay 7 sheep high 1 3 10 x", api.ErrForm}, {"count stay 7 sh\neep high 1 99 10 2", api.ErrForm},
+		{"count stay 7 sheep high x 41 10 2", api.ErrForm}, {"count stay x sheep high 1 41 10 2", api.ErrForm}, {"count stay 7 sheep high 1 3 x 2", api.ErrForm}, {"count stay 7 sheep high 1 3 10 x", api.ErrForm}, {"count stay 7 sh\neep high 1 99 10 2", api.ErrForm},
 		{"count stay 7  high 1 99 10 2", api.ErrForm}, {"count stay 7 sheep moor 1 3 10 2", api.ErrForm}, {"count stay 7 sheep moor 1 99 10 2", api.ErrArg},
 		{"count void 7 sheep high 1 3 10 2", api.ErrForm}, {"count void 7 sheep high 1 41 10 2", api.ErrArg}, {"count stay 7 sheep high 1 3 1001 2", api.ErrLimit},
 		{"count stay 7 sheep moor 1 3 1001 2", api.ErrLimit}, {"count stay 7 sheep high 1 3 1000 2", api.OK}, {"count stay 7 sheep high 1 3 100001 0", api.ErrArg}, {"count stay 7 sheep high 1 3 0 10000", api.OK},
@@ -127,11 +128,11 @@ func TestJudgePaper(t *testing.T) {
 // 400 steps are the most, and 600 entries.
 func TestManyPapers(t *testing.T) {
 	m := newManor(t, 3)
-	answersTo(t, m, "table equal sheep 0 1 4", api.OK, "step complain 7 1 over", api.OK, "step summon 1", api.OK, "day 21", api.OK)
+	answersTo(t, m, "table equal sheep 0 1 4", api.OK, "step complain 7 1 over", api.OK, "step summon 1", api.OK, "step complain 7 1 over", api.OK, "day 21", api.OK)
 	for range 397 {
 		answersTo(t, m, "judge 1", api.OK)
 	}
-	answersTo(t, m, "step complain 7 1 over", api.OK, "step complain 7 1 over", api.ErrForm, "judge 1", api.ErrArg, "judge 3", api.ErrNone, "judge 400", api.ErrArg)
+	answersTo(t, m, "step complain 7 1 over", api.ErrForm, "judge 1", api.ErrArg, "judge 2", api.ErrNone, "judge 3", api.ErrArg, "judge 400", api.ErrNone)
 	for range 600 - len(m.Entries()) {
 		answersTo(t, m, "note more", api.OK)
 	}
@@ -155,8 +156,35 @@ func TestManyRecords(t *testing.T) {
 	answersTo(t, m, "count stay 7 sheep high 1 3 10 2", api.ErrLimit, "report stay 7 sheep high 1 10 12", api.ErrLimit, "count stay 7 sheep moor 1 3 10 2", api.ErrForm)
 }
 
+// wideRules returns the sources of rules that Print, with blanks and brackets, writes with 20000 bytes, and with one more.
+func wideRules(t *testing.T) (string, string) {
+	t.Helper()
+	var l []string
+	length := func(more ...string) int {
+		w, fault := rule.Parse(strings.Join(append(slices.Clone(l), more...), "\n"))
+		mustOK(t, "Parse", fault.Err)
+		return len(rule.Print(w))
+	}
+	fine := func(name string, ands, ones int) string {
+		return fmt.Sprint("fine ", name, " when cow>0", strings.Repeat(" and cow>0", ands), " pays 1", strings.Repeat("+1", ones))
+	}
+	for _, ands := range []int{40, 0} {
+		for len(l) < 19 && length(fine("last", ands, 98)) < 20000 {
+			l = append(l, fine(fmt.Sprint("a", len(l)), ands, 98))
+		}
+	}
+	// The first sum adds 4 bytes, each further one 6, and the name has what is left.
+	rest := 20000 - length(fine("b", 0, 1))
+	name := "b" + strings.Repeat("x", rest%6)
+	return strings.Join(append(slices.Clone(l), fine(name, 0, 1+rest/6)), "\n"), strings.Join(append(l, fine(name+"x", 0, 1+rest/6)), "\n")
+}
+
 // K8: the errors of the whole, in their order.
 func TestProcessErrors(t *testing.T) {
+	short, tooLong := wideRules(t)
+	if w, fault := rule.Parse(short); fault.Err != api.OK || len(rule.Print(w)) != 20000 {
+		t.Fatalf("rules of %d bytes, error %d", len(rule.Print(w)), fault.Err)
+	}
 	for _, x := range []struct {
 		fell, rules string
 		house       api.Rate
@@ -167,7 +195,7 @@ func TestProcessErrors(t *testing.T) {
 		{strings.Repeat("\n", 20001), "x", api.Rate{}, nil, api.ErrLimit}, {fellS, "x", api.Rate{Misses: 501}, nil, api.ErrForm}, {fellS, "fine x when cow pays 1", api.Rate{}, nil, api.ErrType},
 		{fellS, strings.Repeat("\n", 20001), api.Rate{Misses: 501}, nil, api.ErrLimit}, {fellS, rulesS, api.Rate{Misses: 501}, make([]string, 1501), api.ErrArg}, {fellS, rulesS, api.Rate{Doubles: -1}, nil, api.ErrArg},
 		{fellS, rulesS, api.Rate{Misses: 500, Doubles: 500}, nil, api.OK}, {fellS, rulesS, api.Rate{}, make([]string, 1501), api.ErrLimit}, {fellS, rulesS, api.Rate{}, make([]string, 1500), api.OK},
-		{fellS, rulesS, api.Rate{}, []string{"", strings.Repeat("x", 2001)}, api.ErrLimit}, {fellS, rulesS, api.Rate{}, []string{strings.Repeat("x", 2000)}, api.OK}, {fellS, "", api.Rate{}, nil, api.OK},
+		{fellS, rulesS, api.Rate{}, []string{"", strings.Repeat("x", 2001)}, api.ErrLimit}, {fellS, rulesS, api.Rate{}, []string{strings.Repeat("x", 2000)}, api.OK}, {fellS, "", api.Rate{}, nil, api.OK}, {fellS, short, api.Rate{}, nil, api.OK}, {fellS, tooLong, api.Rate{}, nil, api.ErrLimit}, {fellS, tooLong, api.Rate{Misses: 501}, nil, api.ErrLimit}, {"x", tooLong, api.Rate{}, nil, api.ErrForm},
 		{"# a fell\n" + fellS, "# rules\n" + rulesS, api.Rate{}, nil, api.OK},
 	} {
 		l, answers, e := manor.Process(api.Setup{Fell: x.fell, Rules: x.rules, House: x.house}, x.texts)

@@ -392,3 +392,40 @@ func TestWorlds(t *testing.T) {
 		t.Errorf("holds %d, fines %d, postings %d, takes %d", holds, fines, postings, takes)
 	}
 }
+
+// P10.10 (crashes): of two manors with three reeves in which the same happens, but that in the one reeves whose power lasts crash now and then, all answers are the same.
+func TestCrashesUnseen(t *testing.T) {
+	r := random(45)
+	crashes := 0
+	for range 30 {
+		var twins [2]*manor.Manor
+		for i := range twins {
+			twins[i] = newManor(t, 3)
+			for _, text := range begin() {
+				mustOK(t, text, twins[i].Write(text))
+			}
+		}
+		for range 300 {
+			if r.IntN(5) == 0 {
+				mustOK(t, "Crash", twins[0].Crash(r.IntN(3), []int{r.IntN(65)}))
+				crashes++
+			}
+			c := someCommand(r, 3)
+			if c.name == "stop" || c.name == "crash" {
+				continue
+			}
+			if x, y := c.of(twins[0]), c.of(twins[1]); x != y {
+				t.Fatalf("%+v: %v, without crashes %v", c, x, y)
+			}
+			if x, y := rollsOf(twins[0], 3), rollsOf(twins[1], 3); x != y {
+				t.Fatalf("behind %+v: %s, without crashes %s", c, x, y)
+			}
+		}
+		if stateOf(twins[0]) != stateOf(twins[1]) {
+			t.Fatal("the states of the twins differ")
+		}
+	}
+	if crashes < 500 {
+		t.Errorf("only %d crashes", crashes)
+	}
+}

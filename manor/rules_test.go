@@ -5,6 +5,7 @@ import (
 	"math"
 	"math/rand/v2"
 	"reflect"
+	"slices"
 	"strings"
 	"testing"
 
@@ -117,6 +118,9 @@ func TestOddBooks(t *testing.T) {
 		judgment, is := manor.Judged(b, id)
 		returned[fmt.Sprint("CheckStep ", int(e))]++
 		returned[fmt.Sprint("Due ", int(f))]++
+		if !slices.IsSorted(cases) {
+			t.Fatalf("Cases of %+v: %v", b, cases)
+		}
 		if f != api.OK && (v != api.Verdict{} || amount != 0) || !is && judgment != (api.Step{}) {
 			t.Fatalf("Due, Judged of %+v: %v, %d, %d, %v", b, v, amount, f, judgment)
 		}

@@ -57,6 +57,12 @@ func TestPrints(t *testing.T) {
 		"ok\nnumber 1\nnumber 2\nnumber 3\nerror 8\nerror 5\nerror 5\nroll 3\n0 1 0 fee 3 7 40\n0 2 0 pay 1 7 30\n0 3 0 waive 1 7 4\nbalance 6\nbalance -36\nbalance 30\nbalance 0\n")
 	prints(t, setupLines+"fee 0 3 7 40\nsend 1 0\ncarry 1 0 0\ncarry 0 1 0\npay 1 0 1 30\nsend 0 1\ncarry 0 1 0\ncarry 1 0 1\nsettle 0\nsettle 0\nbalance 0 200\nlose 1 0 0\nrepeat 1 0 0\nlose 1 0 7\n",
 		"ok\nnumber 1\nok\nok\nok\nnumber 1\nok\nok\nok\nnumber 0\nerror 5\nbalance 0\nok\nerror 5\nerror 5\n")
+	// The write of the second fee is pending when the power fails: as a whole it is there behind the crash, without its bytes it is not.
+	torn := setupLines + "fee 1 4 12 40\nstop 1 1\nfee 1 7 12 40\nsend 1 0\ncrash 1"
+	prints(t, torn+" 64\nroll 1\n", "ok\nnumber 1\nok\nerror 90\nerror 90\nok\nroll 2\n1 1 0 fee 4 12 40\n1 2 0 fee 7 12 40\n")
+	for _, keep := range []string{"", " 0", " -64", " -1 64"} {
+		prints(t, torn+keep+"\nroll 1\n", "ok\nnumber 1\nok\nerror 90\nerror 90\nok\nroll 1\n1 1 0 fee 4 12 40\n")
+	}
 	prints(t, setupLines+"want 0 Any.word! 9\nfree 0 #\x00\nwant 0 ewe 100001\nwant 0 ewe 9\nfree 0 ewe\nfree 0 ewe\n", "ok\nerror 1\nerror 5\nerror 1\nnumber 1\nok\nerror 5\n")
 }
 
